@@ -8,7 +8,7 @@ import (
 )
 
 func TestWithin(t *testing.T) {
-	for _, l := range []int{0, 1, 2047, api.MaxSample, api.MaxWeight, api.MaxGuess, 4 * api.MaxGuess} {
+	for _, l := range []int{0, 1, 2047, api.MaxSample, api.MaxWeight, api.MaxGuess, 4 * api.MaxGuess, api.MaxNumber} {
 		for _, x := range []int{-l, -l + 1, -l / 2, 0, l / 2, l - 1, l} {
 			if x < -l || x > l {
 				continue
@@ -21,7 +21,7 @@ func TestWithin(t *testing.T) {
 }
 
 func TestBeyond(t *testing.T) {
-	for _, l := range []int{0, 1, 2047, api.MaxSample, api.MaxWeight, api.MaxGuess, 4 * api.MaxGuess} {
+	for _, l := range []int{0, 1, 2047, api.MaxSample, api.MaxWeight, api.MaxGuess, 4 * api.MaxGuess, api.MaxNumber} {
 		for _, x := range []int{l + 1, l + 2, 2*l + 1, 1 << 31, 1 << 32, 1<<32 + l, 1 << 62, math.MaxInt} {
 			isHeld(t, l, x, l)
 			isHeld(t, l, -x, -l)
